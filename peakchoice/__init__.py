@@ -1,0 +1,1 @@
+"""Nash implementation of social choice correspondences with three agents."""
