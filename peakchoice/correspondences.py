@@ -1,7 +1,7 @@
 """Correspondences: for each profile, in order, the mask of its acceptable alternatives."""
 
 from peakchoice.profiles import ranking_triples
-from peakchoice.rankings import kept_mask, preferred_masks
+from peakchoice.rankings import preferred_masks
 
 
 def pareto_masks(domains):
@@ -59,37 +59,3 @@ def borda_scores(triple):
             points -= 1
             scores[x] += points
     return scores
-
-
-def closed_masks(domains, masks):
-    """The monotonic closure of the correspondence."""
-    # Not lowered is asked of each agent by itself, so one agent's preference can be
-    # changed after another's, which takes far fewer steps than all pairs of profiles.
-    step = len(masks)
-    closed = masks
-    for domain in domains:
-        step = step // len(domain)
-        closed = closed_for_agent(closed, domain, step)
-    return closed
-
-
-def closed_for_agent(masks, domain, step):
-    """The closure where this agent's preference alone changes; its next one is step profiles further."""
-    kept = kept_table(domain)
-    closed = []
-    for position in range(len(masks)):
-        new = position // step % len(domain)
-        start = position - new * step
-        mask = 0
-        for old in range(len(domain)):
-            mask = mask | (masks[start + old * step] & kept[old][new])
-        closed.append(mask)
-    return closed
-
-
-def kept_table(domain):
-    """For each old and each new preference the mask of the alternatives that aren't lowered."""
-    table = []
-    for old_ranking in domain:
-        table.append([kept_mask(old_ranking, new_ranking) for new_ranking in domain])
-    return table

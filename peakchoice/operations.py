@@ -1,8 +1,9 @@
-"""What each call does; each gives back the list of the numbers that it is answered by."""
+"""What the calls that may change the state do; each gives back the list of the numbers that it is answered by."""
 
 from peakchoice.codes import INVALID, KNOWN_ALREADY, LIMIT_REACHED, NOT_THERE
-from peakchoice.correspondences import borda_masks, closed_masks, pareto_masks, peak_masks
+from peakchoice.correspondences import borda_masks, pareto_masks, peak_masks
 from peakchoice.instance import Instance, replace_domain
+from peakchoice.monotonicity import closed_masks
 from peakchoice.profiles import is_profile, profile_position
 from peakchoice.rankings import all_rankings, is_ranking
 
@@ -75,9 +76,3 @@ def close_monotonically(instance):
     changed = 1 if closed != instance.masks else 0
     instance.masks = closed
     return [changed]
-
-
-def acceptable(instance, profile):
-    if not is_profile(instance.domains, profile):
-        return [INVALID]
-    return [instance.masks[profile_position(instance.domains, profile)]]

@@ -24,11 +24,31 @@ def profile_position(domains, profile):
     return position
 
 
+def profile_at(domains, position):
+    """The profile with this profile index."""
+    profile = []
+    rest = position
+    for domain in reversed(domains):
+        profile.insert(0, rest % len(domain))
+        rest = rest // len(domain)
+    return profile
+
+
+def all_profiles(domains):
+    """Every profile, in lexicographic order."""
+    profiles = []
+    for first in range(len(domains[0])):
+        for second in range(len(domains[1])):
+            for third in range(len(domains[2])):
+                profiles.append([first, second, third])
+    return profiles
+
+
+def rankings_in(domains, profile):
+    """The three rankings of the profile."""
+    return [domain[k] for domain, k in zip(domains, profile)]
+
+
 def ranking_triples(domains):
     """The three rankings of each profile, in the order of the profiles."""
-    triples = []
-    for first in domains[0]:
-        for second in domains[1]:
-            for third in domains[2]:
-                triples.append([first, second, third])
-    return triples
+    return [rankings_in(domains, profile) for profile in all_profiles(domains)]

@@ -1,5 +1,7 @@
 """Preferences: rankings of all alternatives, the best one first."""
 
+from peakchoice.bitsets import full_mask, is_member
+
 
 def is_ranking(numbers, alternative_count):
     """Whether each alternative stands in the list exactly once."""
@@ -32,6 +34,16 @@ def preferred_masks(ranking):
         masks[x] = before
         before = before | (1 << x)
     return masks
+
+
+def not_preferred_masks(ranking):
+    """For each alternative the mask of those that aren't preferred to it, itself among them."""
+    return [full_mask(len(ranking)) - preferred for preferred in preferred_masks(ranking)]
+
+
+def best_member(ranking, mask):
+    """The alternative of the set that comes first in the ranking."""
+    return [x for x in ranking if is_member(mask, x)][0]
 
 
 def kept_mask(old_ranking, new_ranking):

@@ -3,8 +3,9 @@
 import itertools
 import unittest
 
-from helper import (BORDA, CLOSE, PARETO, PEAKS, add, ask, ask_all, create, instance_calls, masks_after,
-                    monotonicity_violations, profiles_of, put, run, run_last, word_closure)
+from helper import (BORDA, CLOSE, PARETO, PEAKS, add, as_dict, ask, ask_all, create, every_correspondence,
+                    instance_calls, masks_after, monotonicity_violations, profiles_of, put, run, run_last,
+                    word_closure)
 
 TWO = [[0, 1], [1, 0]]
 THREE = [list(ranking) for ranking in itertools.permutations(range(3))]
@@ -14,10 +15,6 @@ SMALL = [
     (3, [THREE[:2], THREE[:1], THREE[3:4]]), (3, [THREE[:1], THREE[1:4], THREE[5:]]),
     (3, [THREE[2:3], THREE[4:5], [THREE[0], THREE[2], THREE[5]]]), (4, [FOUR[:1], [FOUR[0], FOUR[6]], FOUR[9:10]]),
 ]
-
-
-def as_dict(domains, masks):
-    return dict(zip([tuple(p) for p in profiles_of(domains)], masks))
 
 
 def contains(outer, inner):
@@ -40,10 +37,6 @@ def closures(count, domains, correspondences):
             part = numbers[at + len(profiles):at + 2 * len(profiles) + 1]
             found.append((part[0], tuple(part[1:])))
     return found
-
-
-def every_correspondence(count, domains):
-    return list(itertools.product(range(2 ** count), repeat=len(profiles_of(domains))))
 
 
 class TestSmallestClosure(unittest.TestCase):

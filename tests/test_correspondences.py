@@ -1,4 +1,4 @@
-"""use_pareto, use_peaks, use_borda_winners; requirement 6 as far as the calls 0 to 8 show it."""
+"""use_pareto, use_peaks, use_borda_winners; requirement 6 by the words alone."""
 
 import itertools
 import unittest

@@ -7,22 +7,25 @@ import unittest
 
 import peakchoice.mechanism
 from peakchoice.mechanism import answers
-from helper import (BORDA, CLOSE, LARGEST, PARETO, PEAKS, add, ask, create, full, instance_calls, joined, put,
-                    run, run_last)
+from helper import (BORDA, CLOSE, DESCRIBE, IMPLEMENTS, LARGEST, MONOTONICITY, PARETO, PEAKS, VETO, add, ask, attain,
+                    create, full, index_of, instance_calls, is_stable, joined, outcome_of, outcomes_in, put, run,
+                    run_last)
 
 # Every call but create, once each, with arguments of the right form.
 ALL_BUT_CREATE = [
     add(0, [0, 1]), full(0), put(0, [0, 0, 0]), PARETO, PEAKS, BORDA, CLOSE, ask([0, 0, 0]),
-    [9], [10], [11, 3, 0, 0, 0], [12, 9] + [0] * 9, [13, 0, 9] + [0] * 9, [14, 0, 9] + [0] * 9,
-    [15, 3, 0, 0, 0], [16], [17],
+    MONOTONICITY, VETO, index_of([0, 0, 0]), outcome_of([0] * 9), attain(0, [0] * 9), is_stable(0, [0] * 9),
+    outcomes_in([0, 0, 0]), IMPLEMENTS, DESCRIBE,
 ]
 # The same with arguments that their own errors would refuse.
 ALL_BUT_CREATE_WRONG = [
-    add(3, [9]), full(LARGEST), put(LARGEST, []), ask([]), ask([LARGEST] * 10), [11, 0], [12, 0], [13, 7, 1, 5],
-    [14, LARGEST, 10] + [LARGEST] * 10, [15, 2, 0, 0],
+    add(3, [9]), full(LARGEST), put(LARGEST, []), ask([]), ask([LARGEST] * 10), index_of([]), outcome_of([]),
+    attain(7, [5]), attain(0, [0] * 8), is_stable(LARGEST, [LARGEST] * 10), is_stable(0, []), outcomes_in([0, 0]),
 ]
 SAMPLE = [create(3), full(0), full(1), add(2, [2, 0, 1]), put(5, [0, 1, 0]), CLOSE, ask([0, 1, 0]), BORDA,
-          put(9, [0, 0, 0]), ask([5, 5, 0]), create(7), create(2), ask([0, 0, 0]), add(1, [0, 1])]
+          put(9, [0, 0, 0]), ask([5, 5, 0]), MONOTONICITY, VETO, index_of([3, 4, 0]), outcome_of([1, 2, 3] * 3),
+          attain(1, [7, 0, 1] * 3), attain(3, []), is_stable(35, [9, 1, 0] * 3), outcomes_in([2, 2, 0]), IMPLEMENTS,
+          DESCRIBE, create(7), create(2), ask([0, 0, 0]), DESCRIBE, IMPLEMENTS, add(1, [0, 1])]
 
 
 class TestForm(unittest.TestCase):
@@ -48,6 +51,23 @@ class TestForm(unittest.TestCase):
         self.assertIs(type(given), list)
         self.assertEqual({type(number) for number in given}, {int})
 
+    def test_how_many_numbers_each_call_is_answered_by(self):
+        ahead = instance_calls(2, [[[0, 1], [1, 0]], [[0, 1]], [[0, 1]]])
+        told = [(put(0, [0, 0, 0]), 1), (CLOSE, 1), (ask([0, 0, 0]), 1), (MONOTONICITY, 1), (VETO, 5), (IMPLEMENTS, 4),
+                (put(1, [1, 0, 0]), 1), (MONOTONICITY, 8), (PEAKS, 1), (BORDA, 1), (PARETO, 1), (MONOTONICITY, 1),
+                (VETO, 1), (IMPLEMENTS, 1), (index_of([0, 0, 0]), 2), (outcome_of([0] * 9), 2),
+                (attain(0, [0] * 9), 1), (is_stable(0, [0] * 9), 1), (outcomes_in([0, 0, 0]), 1), (DESCRIBE, 4),
+                (add(1, [1, 0]), 1), (full(1), 1), (create(2), 1)]
+        given = run(ahead + [call for call, length in told])[len(ahead):]
+        self.assertEqual([len(answer) for answer in given], [length for call, length in told])
+        self.assertTrue(all(number >= 0 for answer in given for number in answer))
+        self.assertEqual({call[0] for call, length in told}, set(range(18)))
+
+    def test_every_call_of_every_form_is_answered(self):
+        for ahead in ([], [create(2)], instance_calls(2, [[[0, 1]]] * 3)):
+            for call in ALL_BUT_CREATE + ALL_BUT_CREATE_WRONG:
+                self.assertEqual(len(run(ahead + [call])), len(ahead) + 1)
+
     def test_rows_of_each_length_are_read_to_their_end(self):
         ahead = instance_calls(2, [[[0, 1]], [[0, 1]], [[0, 1]]])
         for length in range(11):
@@ -56,6 +76,11 @@ class TestForm(unittest.TestCase):
             is_profile = length == 3
             expected = [[-22], [0 if is_profile else -22], [1 if is_profile else -22], [1 if is_profile else 0]]
             self.assertEqual(run(calls)[len(ahead):], expected, length)
+            calls = ahead + [PARETO, index_of(row), outcomes_in(row), outcome_of(row), attain(2, row)]
+            calls.append(is_stable(0, row))
+            expected = [[0]] + ([[0, 1], [1]] if is_profile else [[-22]] * 2)
+            expected += [[0, 1], [3], [1]] if length == 9 else [[-22]] * 3
+            self.assertEqual(run(calls + [DESCRIBE])[len(ahead):], expected + [[2, 1, 1, 1]], length)
 
     def test_numbers_that_look_like_calls_are_arguments(self):
         calls = [create(2), add(0, [0, 4, 5, 6, 7, 8, 0, 2, 0, 3]), add(4, [5, 6]), full(7), full(0)]
@@ -71,6 +96,11 @@ class TestForm(unittest.TestCase):
         calls = [create(2)] + [put(LARGEST, row)] * 399
         self.assertLessEqual(len(joined(calls)), 5200)
         self.assertEqual(run(calls), [[0]] + [[-16]] * 399)
+        ahead = instance_calls(2, [[[0, 1]]] * 3)
+        for call, code in ((is_stable(LARGEST, row), -2), (attain(2, row), -22), (is_stable(0, row), -22)):
+            calls = ahead + [call] * 396
+            self.assertLessEqual(len(joined(calls)), 5200)
+            self.assertEqual(run(calls)[4:], [[code]] * 396)
 
 
 class TestAhead(unittest.TestCase):

@@ -28,6 +28,16 @@ BANNED_PARTS = ("dataclass", "overload", "contextmanager")
 PYTHON_NAMES = {name for name in vars(builtins) if not name.startswith("_")}
 BANNED_FILES = {"test", "tests", "testing", "site", "conftest", "sitecustomize", "usercustomize"}
 
+WALKERS = {"list", "tuple", "dict", "sorted", "sum", "any", "all", "enumerate", "zip", "min", "max"}
+READERS = {"get", "index", "count", "items", "keys", "values", "copy"}
+CHANGERS = {"append", "clear", "extend", "insert", "pop", "remove", "reverse", "setdefault", "update"}
+FREE_KEYWORDS = {"sorted": ("key", "reverse"), "min": ("key", "default"), "max": ("key", "default"),
+                 "sum": ("start",), "enumerate": ("start",), "zip": ("strict",)}
+UNTAKEN = {"Exception", "TypeError", "ArithmeticError", "OverflowError", "RuntimeError", "NotImplementedError",
+           "AttributeError"}
+PYTHON_ATTRIBUTES = {name for kind in (str, int, list, dict, set, bytes, tuple) for name in dir(kind)}
+FREE_VALUES = {"count", "index", "title", "find", "get", "join", "lower", "upper", "split", "strip", "copy", "add"}
+
 FREE_STATEMENTS = (ast.FunctionDef, ast.ClassDef, ast.ImportFrom, ast.Assign, ast.AugAssign, ast.If, ast.While,
                    ast.For, ast.Return, ast.Break, ast.Continue, ast.Pass, ast.Raise, ast.Try, ast.Expr)
 FREE_EXPRESSIONS = (ast.Constant, ast.List, ast.Tuple, ast.Dict, ast.Set, ast.BinOp, ast.UnaryOp, ast.BoolOp,
@@ -198,20 +208,118 @@ def is_faults(node):
 def kept_faults(text):
     """What is walked at once stands behind an `in` or straight within a call that walks it; sets likewise."""
     tree = ast.parse(text)
+    walked = set()
+    compared = set()
+    for node in ast.walk(tree):
+        if isinstance(node, (ast.For, ast.comprehension)):
+            walked.add(id(node.iter))
+        if isinstance(node, ast.Call) and isinstance(node.func, ast.Name):
+            if node.func.id in WALKERS:
+                walked.update(map(id, node.args))
+            if node.func.id in ("sorted", "len"):
+                compared.update(map(id, node.args))
+        if isinstance(node, ast.Compare):
+            compared.update(map(id, [node.left] + node.comparators))
+    for node in ast.walk(tree):
+        if isinstance(node, ast.Call) and isinstance(node.func, ast.Name):
+            if node.func.id in ("zip", "enumerate", "reversed", "range") and id(node) not in walked:
+                yield "L23", node.lineno
+            if node.func.id in ("set", "frozenset") and id(node) not in compared:
+                yield "L24", node.lineno
+        if isinstance(node, ast.Call) and isinstance(node.func, ast.Attribute):
+            if node.func.attr in ("items", "keys", "values") and id(node) not in walked:
+                yield "L23", node.lineno
+
+
+def changed_faults(text):
+    """Nothing that a loop walks is changed in it."""
+    for loop in ast.walk(ast.parse(text)):
+        if not isinstance(loop, ast.For):
+            continue
+        names = set()
+        if isinstance(loop.iter, ast.Name):
+            names = {loop.iter.id}
+        elif isinstance(loop.iter, ast.Call) and isinstance(loop.iter.func, ast.Name):
+            if loop.iter.func.id in ("enumerate", "zip", "reversed"):
+                names = {part.id for part in loop.iter.args if isinstance(part, ast.Name)}
+        elif isinstance(loop.iter, ast.Call) and isinstance(loop.iter.func, ast.Attribute):
+            if isinstance(loop.iter.func.value, ast.Name):
+                names = {loop.iter.func.value.id}
+        for node in [part for statement in loop.body for part in ast.walk(statement)]:
+            changed = None
+            if isinstance(node, ast.Call) and isinstance(node.func, ast.Attribute) and node.func.attr in CHANGERS:
+                changed = node.func.value
+            if isinstance(node, ast.Subscript) and isinstance(node.ctx, ast.Store):
+                changed = node.value
+            if isinstance(changed, ast.Name) and changed.id in names:
+                yield "L23 changed", node.lineno
+
+
+def top_value_faults(text):
+    """A list, tuple or dict of a file's top is only read on the spot."""
+    tree = ast.parse(text)
+    kept = {node.targets[0].id for node in tree.body if isinstance(node, ast.Assign)
+            and isinstance(node.value, (ast.List, ast.Tuple, ast.Dict)) and isinstance(node.targets[0], ast.Name)}
     free = set()
     for node in ast.walk(tree):
         if isinstance(node, (ast.For, ast.comprehension)):
             free.add(id(node.iter))
-        if isinstance(node, ast.Call) and isinstance(node.func, ast.Name):
-            free.update(map(id, node.args))
         if isinstance(node, ast.Compare):
-            free.update(map(id, [node.left] + node.comparators))
+            free.update(map(id, node.comparators + [node.left]))
+        if isinstance(node, ast.Subscript) and isinstance(node.ctx, ast.Load):
+            free.add(id(node.value))
+        if isinstance(node, ast.Call) and isinstance(node.func, ast.Name) and node.func.id in {*WALKERS, "len"}:
+            free.update(map(id, node.args))
+        if isinstance(node, ast.Attribute) and node.attr in READERS:
+            free.add(id(node.value))
     for node in ast.walk(tree):
-        if isinstance(node, ast.Call) and isinstance(node.func, ast.Name) and id(node) not in free:
-            if node.func.id in ("zip", "enumerate", "reversed", "range"):
-                yield "L23", node.lineno
-            if node.func.id in ("set", "frozenset"):
-                yield "L24", node.lineno
+        if isinstance(node, ast.Name) and isinstance(node.ctx, ast.Load) and node.id in kept and id(node) not in free:
+            yield "L15 handed on", node.lineno
+
+
+def call_faults(text):
+    """Keywords at Python's own names, and the classes that a handler takes."""
+    for node in ast.walk(ast.parse(text)):
+        if isinstance(node, ast.Call):
+            name = node.func.id if isinstance(node.func, ast.Name) else None
+            own = isinstance(node.func, ast.Name) and not hasattr(builtins, name)
+            if not own and any(part.arg not in FREE_KEYWORDS.get(name, ()) for part in node.keywords):
+                yield "L22 keyword", node.lineno
+        if isinstance(node, ast.ExceptHandler) and node.type is not None:
+            taken = node.type.elts if isinstance(node.type, ast.Tuple) else [node.type]
+            if not taken or any(isinstance(part, ast.Name) and part.id in UNTAKEN for part in taken):
+                yield "L19 taken", node.lineno
+
+
+def value_faults(text):
+    """The values of objects aren't called like what Python's own values have."""
+    for node in ast.walk(ast.parse(text)):
+        if isinstance(node, ast.Attribute) and isinstance(node.ctx, ast.Store):
+            if node.attr in PYTHON_ATTRIBUTES - FREE_VALUES:
+                yield "L26 value", node.lineno
+
+
+def class_use_faults(text):
+    """A class is called, is a base, or stands by isinstance, except or raise."""
+    tree = ast.parse(text)
+    classes = {node.name for node in tree.body if isinstance(node, ast.ClassDef)}
+    free = set()
+    for node in ast.walk(tree):
+        if isinstance(node, ast.Call):
+            free.add(id(node.func))
+            if isinstance(node.func, ast.Name) and node.func.id == "isinstance":
+                free.update(id(part) for given in node.args[1:] for part in ast.walk(given))
+        if isinstance(node, ast.ClassDef):
+            free.update(map(id, node.bases))
+        if isinstance(node, ast.ExceptHandler) and node.type is not None:
+            free.update(map(id, ast.walk(node.type)))
+        if isinstance(node, ast.Raise):
+            free.add(id(node.exc))
+        if isinstance(node, ast.Attribute) and node.attr == "__init__":
+            free.add(id(node.value))
+    for node in ast.walk(tree):
+        if isinstance(node, ast.Name) and node.id in classes and id(node) not in free:
+            yield "L18 class", node.lineno
 
 
 def import_faults(text):
@@ -225,7 +333,7 @@ def import_faults(text):
 
 
 CHECKS = (size_faults, word_faults, name_faults, top_faults, statement_faults, expression_faults, kept_faults,
-          import_faults)
+          changed_faults, top_value_faults, call_faults, value_faults, class_use_faults, import_faults)
 
 
 def faults(text):
@@ -329,7 +437,20 @@ class TestTheChecks(unittest.TestCase):
         ("L7 comprehension", "def f(a):\n    return [x for y in a for x in y]"),
         ("L7 f-string", "def f(a):\n    return f'{a + 1}'"), ("L20", "def f(a, b):\n    return a is b"),
         ("L25", "def f(a):\n    a.sort()"), ("L23", "def f(a):\n    b = range(a)"),
-        ("L24", "def f(a):\n    b = set(a)"), ("L16 import", "import sys"), ("L2", "from os import path"),
+        ("L23", "def f(a):\n    return len(range(a))"), ("L23", "def f(a):\n    return g(a.items())"),
+        ("L23 changed", "def f(a):\n    for b in a:\n        a.append(b)"),
+        ("L23 changed", "def f(a):\n    for k, b in enumerate(a):\n        a[k] = b"),
+        ("L23 changed", "def f(a):\n    for b in a.values():\n        a.pop(b)"),
+        ("L15 handed on", "X = (1, 2)\ndef f():\n    return X"), ("L15 handed on", "X = [1]\ndef f():\n    g(X)"),
+        ("L15 handed on", "X = {}\ndef f():\n    X[1] = 2"), ("L15 handed on", "X = []\ndef f():\n    X.append(2)"),
+        ("L22 keyword", "def f(a):\n    return len(obj=a)"), ("L22 keyword", "def f(a):\n    return a.split(sep=a)"),
+        ("L19 taken", "def f():\n    try:\n        g()\n    except Exception:\n        pass"),
+        ("L19 taken", "def f():\n    try:\n        g()\n    except (KeyError, TypeError):\n        pass"),
+        ("L26 value", "class A:\n    def __init__(self):\n        self.values = 1"),
+        ("L26 value", "class A:\n    def __init__(self):\n        self.real = 1"),
+        ("L18 class", "class A:\n    pass\ndef f():\n    return [A]"),
+        ("L24", "def f(a):\n    b = set(a)"), ("L24", "def f(a):\n    return list(set(a))"),
+        ("L16 import", "import sys"), ("L2", "from os import path"),
         ("L2", "from .a import b"), ("L2", "from peakchoice.a import *"),
     )
 
@@ -338,7 +459,8 @@ class TestTheChecks(unittest.TestCase):
             self.assertIn(rule, [found for found, line in faults(text)], text)
 
     def test_nothing_is_found_in_plain_code(self):
-        text = '"""Words."""\n\nfrom peakchoice.a import b\n\nX = (1, (2, 3))\n\n\ndef f(a):\n    return [b(k) for k in a]\n'
+        text = ('"""Words."""\n\nfrom peakchoice.a import b\n\nX = (1, (2, 3))\n\n\n'
+                'def f(a):\n    return [b(k) for k in a if k in X]\n')
         self.assertEqual(faults(text), [])
 
 
